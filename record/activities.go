@@ -24,13 +24,14 @@ func Check(a api.Activity) api.Errno {
 	if e := checkSamples(a.Start, a.Samples); e != api.OK {
 		return e
 	}
-	if e := checkLaps(a.Laps, spanOf(a)); e != api.OK {
+	if e := checkLaps(a.Laps, Span(a)); e != api.OK {
 		return e
 	}
 	return checkTags(a.Tags)
 }
 
-func spanOf(a api.Activity) int {
+// Span returns At of the last sample, 0 without samples.
+func Span(a api.Activity) int {
 	if len(a.Samples) == 0 {
 		return 0
 	}

@@ -205,3 +205,12 @@ func TestB1Same(t *testing.T) {
 	want(t, "nil and empty", told(record.Same(api.Activity{}, api.Activity{Samples: []api.Sample{}, Laps: []api.Lap{}, Tags: []string{}})), "true")
 	want(t, "the same", told(record.Same(ride(), ride())), "true")
 }
+
+func TestB1Span(t *testing.T) {
+	a := ride()
+	want(t, "three samples", told(record.Span(a)), "63")
+	a.Samples = a.Samples[:1]
+	want(t, "one sample", told(record.Span(a)), "0")
+	a.Samples = nil
+	want(t, "without samples", told(record.Span(a)), "0")
+}

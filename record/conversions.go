@@ -112,7 +112,7 @@ func FileOf(a api.Activity, big bool) (api.File, api.Errno) {
 	if e := Check(a); e != api.OK {
 		return api.File{}, e
 	}
-	if a.Start+spanOf(a) > maxTime {
+	if a.Start+Span(a) > maxTime {
 		return api.File{}, api.ErrRange
 	}
 	f := draft{big: big}
