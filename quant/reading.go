@@ -65,6 +65,21 @@ func number(take taker, least, most int) (int, bool) {
 	return n, true
 }
 
+// ReadWhole reads a number of at most so many digits (which an int can hold), without a 0 before others.
+func ReadWhole(s string, most int) (int, bool) {
+	if len(s) < 1 || len(s) > most || len(s) > 1 && s[0] == '0' {
+		return 0, false
+	}
+	n := 0
+	for i := range len(s) {
+		if s[i] < '0' || s[i] > '9' {
+			return 0, false
+		}
+		n = 10*n + int(s[i]-'0')
+	}
+	return n, true
+}
+
 // pair takes two digits, from 00 to most.
 func pair(take taker, most int) (int, bool) {
 	tens, ok := take('0', '0'+byte(most/10))

@@ -124,3 +124,17 @@ func TestA2Sizes(t *testing.T) {
 		want(t, x.name+" of other bytes", told(at, e), "0 6")
 	}
 }
+
+func TestA2ReadWhole(t *testing.T) {
+	for _, c := range []struct {
+		s    string
+		most int
+		want string
+	}{
+		{"0", 1, "0 true"}, {"7", 1, "7 true"}, {"10", 2, "10 true"}, {"999999999", 9, "999999999 true"}, {"100000000000000000", 18, "100000000000000000 true"},
+		{"", 9, "0 false"}, {"00", 9, "0 false"}, {"07", 9, "0 false"}, {"10", 1, "0 false"}, {"1234567890", 9, "0 false"}, {"0", 0, "0 false"},
+		{"-1", 9, "0 false"}, {"+1", 9, "0 false"}, {" 1", 9, "0 false"}, {"1 ", 9, "0 false"}, {"1/", 9, "0 false"}, {"1:", 9, "0 false"}, {"1a2", 9, "0 false"}, {"١", 9, "0 false"},
+	} {
+		want(t, "ReadWhole "+c.s, told(quant.ReadWhole(c.s, c.most)), c.want)
+	}
+}

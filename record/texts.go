@@ -5,6 +5,7 @@ import (
 	"strings"
 
 	"harrier/api"
+	"harrier/quant"
 )
 
 const (
@@ -151,22 +152,7 @@ func parseData(kind int, next func() (string, bool)) (api.Entry, bool) {
 // nextNumber takes the next word as a number. Where there is no word, there is no number.
 func nextNumber(next func() (string, bool)) (int, bool) {
 	word, _ := next()
-	return parseNumber(word)
-}
-
-// parseNumber reads one to nine digits without a 0 ahead.
-func parseNumber(s string) (int, bool) {
-	if len(s) < 1 || len(s) > maxDigits || len(s) > 1 && s[0] == '0' {
-		return 0, false
-	}
-	n := 0
-	for i := range len(s) {
-		if s[i] < '0' || s[i] > '9' {
-			return 0, false
-		}
-		n = 10*n + int(s[i]-'0')
-	}
-	return n, true
+	return quant.ReadWhole(word, maxDigits)
 }
 
 func parseField(s string) (api.FieldDef, bool) {
@@ -174,9 +160,9 @@ func parseField(s string) (api.FieldDef, bool) {
 	if len(words) != 3 {
 		return api.FieldDef{}, false
 	}
-	number, isNumber := parseNumber(words[0])
-	size, isSize := parseNumber(words[1])
-	kind, isKind := parseNumber(words[2])
+	number, isNumber := quant.ReadWhole(words[0], maxDigits)
+	size, isSize := quant.ReadWhole(words[1], maxDigits)
+	kind, isKind := quant.ReadWhole(words[2], maxDigits)
 	return api.FieldDef{Number: number, Size: size, Type: kind}, isNumber && isSize && isKind
 }
 

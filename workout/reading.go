@@ -180,13 +180,9 @@ func (r *reader) pace(s string) int {
 	return 60*r.whole(minutes, maxMinute) + 10*tens + r.whole(seconds[1:], 1)
 }
 
-// whole reads a number of so many digits at most, without a 0 before others.
+// whole reads a number of so many digits at most.
 func (r *reader) whole(s string, most int) int {
-	r.need(within(len(s), 1, most) && (s[0] != '0' || s == "0"))
-	n := 0
-	for i := range len(s) {
-		r.need(within(int(s[i]), '0', '9'))
-		n = 10*n + int(s[i]-'0')
-	}
+	n, ok := quant.ReadWhole(s, most)
+	r.need(ok)
 	return n
 }
