@@ -80,6 +80,21 @@ func ReadWhole(s string, most int) (int, bool) {
 	return n, true
 }
 
+// ReadWholes reports whether words are just as many numbers as it has places for. Behind a wrong word no place is filled.
+func ReadWholes(words []string, most int, into ...*int) bool {
+	if len(words) != len(into) {
+		return false
+	}
+	for i, word := range words {
+		n, ok := ReadWhole(word, most)
+		if !ok {
+			return false
+		}
+		*into[i] = n
+	}
+	return true
+}
+
 // pair takes two digits, from 00 to most.
 func pair(take taker, most int) (int, bool) {
 	tens, ok := take('0', '0'+byte(most/10))

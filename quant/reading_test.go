@@ -138,3 +138,19 @@ func TestA2ReadWhole(t *testing.T) {
 		want(t, "ReadWhole "+c.s, told(quant.ReadWhole(c.s, c.most)), c.want)
 	}
 }
+
+func TestA2ReadWholes(t *testing.T) {
+	for _, c := range []struct {
+		words []string
+		want  string
+	}{
+		{[]string{"5", "0"}, "5 0 true"}, {[]string{"999", "10"}, "999 10 true"},
+		{nil, "-1 -1 false"}, {[]string{"5"}, "-1 -1 false"}, {[]string{"5", "6", "7"}, "-1 -1 false"},
+		{[]string{"5", "1000"}, "5 -1 false"}, {[]string{"05", "6"}, "-1 -1 false"}, {[]string{"", "6"}, "-1 -1 false"},
+	} {
+		a, b := -1, -1
+		ok := quant.ReadWholes(c.words, 3, &a, &b)
+		want(t, told("ReadWholes", c.words), told(a, b, ok), c.want)
+	}
+	want(t, "ReadWholes of nothing", told(quant.ReadWholes(nil, 3)), "true")
+}

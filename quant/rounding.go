@@ -108,6 +108,15 @@ func Share(total int, weights []int) ([]int, api.Errno) {
 	if sum == 0 {
 		return nil, api.ErrEmpty
 	}
+	return Shares(total, weights), api.OK
+}
+
+// Shares divides total as Share does, and asks nothing: who calls it knows that no number is below 0, that a weight is above it, and that total times the sum of the weights is not beyond an int.
+func Shares(total int, weights []int) []int {
+	sum := 0
+	for _, w := range weights {
+		sum += w
+	}
 	parts := make([]int, len(weights))
 	rests := make([]int, len(weights))
 	left := total
@@ -118,7 +127,7 @@ func Share(total int, weights []int) ([]int, api.Errno) {
 	for _, i := range greatestFirst(rests)[:left] {
 		parts[i]++
 	}
-	return parts, api.OK
+	return parts
 }
 
 // greatestFirst returns the indexes of l in the order of its numbers, of equal ones the earlier index first.

@@ -200,3 +200,17 @@ func TestA1ShareMany(t *testing.T) {
 		want(t, "the weights", told(weights), told(kept))
 	}
 }
+
+// TestA1Shares has more and greater weights than Share permits, and a sum that it does not.
+func TestA1Shares(t *testing.T) {
+	r := rand.New(rand.NewSource(3))
+	for range 20 {
+		weights := make([]int, 3*quant.MaxShares)
+		for i := range weights {
+			weights[i] = r.Intn(2 * quant.MaxWeight)
+		}
+		total := r.Intn(1_000_000_000)
+		want(t, told("Shares", total), told(quant.Shares(total, weights)), told(shared(total, weights)))
+	}
+	want(t, "one weight", told(quant.Shares(7, []int{3})), "[7]")
+}

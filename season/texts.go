@@ -93,7 +93,7 @@ func (r *reader) line(text string) bool {
 	switch first {
 	case "season":
 		r.begun = true
-		return readNumbers(rest, &r.season.First, &r.season.Days, &r.season.Before)
+		return quant.ReadWholes(rest, maxDigits, &r.season.First, &r.season.Days, &r.season.Before)
 	case "session":
 		return len(r.season.Rules) == 0 && r.session(rest)
 	}
@@ -105,7 +105,7 @@ func (r *reader) session(words []string) bool {
 	if len(words) == 5 && words[4] == "hard" {
 		x.Hard, words = true, words[:4]
 	}
-	if len(words) == 0 || !readNumbers(words[1:], &x.Load, &x.Minutes, &x.Worth) {
+	if len(words) == 0 || !quant.ReadWholes(words[1:], maxDigits, &x.Load, &x.Minutes, &x.Worth) {
 		return false
 	}
 	x.Name = words[0]
@@ -129,7 +129,7 @@ func (r *reader) rule(first string, words []string) bool {
 	for i, word := range words {
 		if fields[i] == 's' {
 			x.Name = word
-		} else if !readNumbers([]string{word}, numberIn(&x, fields[i])) {
+		} else if !quant.ReadWholes([]string{word}, maxDigits, numberIn(&x, fields[i])) {
 			return false
 		}
 	}
@@ -145,19 +145,4 @@ func kindOf(word string) int {
 		}
 	}
 	return 0
-}
-
-// readNumbers reports whether words are just as many numbers.
-func readNumbers(words []string, into ...*int) bool {
-	if len(words) != len(into) {
-		return false
-	}
-	for i, word := range words {
-		n, ok := quant.ReadWhole(word, maxDigits)
-		if !ok {
-			return false
-		}
-		*into[i] = n
-	}
-	return true
 }
