@@ -1,6 +1,10 @@
 package quant
 
-import "harrier/api"
+import (
+	"strings"
+
+	"harrier/api"
+)
 
 // A taker takes the next byte of a text, and moves its place behind it, if there is one from low to high.
 type taker func(low, high byte) (byte, bool)
@@ -78,6 +82,16 @@ func ReadWhole(s string, most int) (int, bool) {
 		n = 10*n + int(s[i]-'0')
 	}
 	return n, true
+}
+
+// ReadSigned reads a number as ReadWhole does, which can have a `-` ahead, but for 0.
+func ReadSigned(s string, most int) (int, bool) {
+	digits, isBelow := strings.CutPrefix(s, "-")
+	n, ok := ReadWhole(digits, most)
+	if isBelow {
+		return -n, ok && n > 0
+	}
+	return n, ok
 }
 
 // ReadWholes reports whether words are just as many numbers as it has places for. Behind a wrong word no place is filled.

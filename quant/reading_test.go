@@ -139,6 +139,20 @@ func TestA2ReadWhole(t *testing.T) {
 	}
 }
 
+func TestA2ReadSigned(t *testing.T) {
+	for _, c := range []struct {
+		s    string
+		most int
+		want string
+	}{
+		{"0", 1, "0 true"}, {"7", 1, "7 true"}, {"-7", 1, "-7 true"}, {"-999999999", 9, "-999999999 true"}, {"999999999", 9, "999999999 true"}, {"-10", 2, "-10 true"},
+		{"-0", 9, "0 false"}, {"-", 9, "0 false"}, {"", 9, "0 false"}, {"--1", 9, "0 false"}, {"-01", 9, "0 false"}, {"-00", 9, "0 false"}, {"-1234567890", 9, "0 false"}, {"1234567890", 9, "0 false"},
+		{"+1", 9, "0 false"}, {"- 1", 9, "0 false"}, {" -1", 9, "0 false"}, {"1-", 9, "0 false"}, {"-1-", 9, "0 false"},
+	} {
+		want(t, "ReadSigned "+c.s, told(quant.ReadSigned(c.s, c.most)), c.want)
+	}
+}
+
 func TestA2ReadWholes(t *testing.T) {
 	for _, c := range []struct {
 		words []string

@@ -69,7 +69,7 @@ func checkLaps(l []api.Lap, span int) api.Errno {
 		if x.From < end {
 			return api.ErrOrder
 		}
-		if !isLapName(x.Name) {
+		if !IsLapName(x.Name) {
 			return api.ErrName
 		}
 		end = x.To
@@ -77,7 +77,8 @@ func checkLaps(l []api.Lap, span int) api.Errno {
 	return api.OK
 }
 
-func isLapName(s string) bool {
+// IsLapName reports whether a lap can have this name.
+func IsLapName(s string) bool {
 	if len(s) > api.MaxName {
 		return false
 	}
@@ -105,4 +106,17 @@ func checkTags(l []string) api.Errno {
 func Same(a, b api.Activity) bool {
 	return a.Name == b.Name && a.Sport == b.Sport && a.Start == b.Start &&
 		slices.Equal(a.Samples, b.Samples) && slices.Equal(a.Laps, b.Laps) && slices.Equal(a.Tags, b.Tags)
+}
+
+// Clone returns an activity with memory of its own.
+func Clone(a api.Activity) api.Activity {
+	a.Samples, a.Laps, a.Tags = slices.Clone(a.Samples), slices.Clone(a.Laps), slices.Clone(a.Tags)
+	return a
+}
+
+// JoinTags returns the tags of two lists, in order, each once.
+func JoinTags(a, b []string) []string {
+	tags := slices.Concat(a, b)
+	slices.Sort(tags)
+	return slices.Compact(tags)
 }

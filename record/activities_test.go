@@ -206,6 +206,41 @@ func TestB1Same(t *testing.T) {
 	want(t, "the same", told(record.Same(ride(), ride())), "true")
 }
 
+// TestB1Clone writes over all that the clone has, also behind the ends of its lists.
+func TestB1Clone(t *testing.T) {
+	a := ride()
+	a.Samples, a.Laps, a.Tags = append(make([]api.Sample, 0, 9), a.Samples...), append(make([]api.Lap, 0, 9), a.Laps...), append(make([]string, 0, 9), a.Tags...)
+	b := record.Clone(a)
+	want(t, "Clone", told(b), told(ride()))
+	clear(b.Samples[:cap(b.Samples)])
+	clear(b.Laps[:cap(b.Laps)])
+	clear(b.Tags[:cap(b.Tags)])
+	want(t, "what was cloned", told(a), told(ride()))
+	want(t, "Clone of nothing", told(record.Clone(api.Activity{})), told(api.Activity{}))
+}
+
+func TestB1JoinTags(t *testing.T) {
+	for _, c := range []struct {
+		a, b []string
+		want string
+	}{
+		{nil, nil, "[]"}, {[]string{"a"}, nil, "[a]"}, {nil, []string{"a", "b"}, "[a b]"}, {[]string{"b"}, []string{"a", "b", "c"}, "[a b c]"},
+		{[]string{"a", "c"}, []string{"a", "c"}, "[a c]"}, {[]string{"Z", "b"}, []string{"a", "bb"}, "[Z a b bb]"},
+	} {
+		a, b := append(make([]string, 0, 9), c.a...), append(make([]string, 0, 9), c.b...)
+		want(t, told("JoinTags", c.a, c.b), told(record.JoinTags(a, b), a, b, a[:9], b[:9]), told(c.want, c.a, c.b, append(c.a, make([]string, 9-len(c.a))...), append(c.b, make([]string, 9-len(c.b))...)))
+	}
+}
+
+func TestB1IsLapName(t *testing.T) {
+	for _, s := range []string{"", " ", "~", "a  b", strings.Repeat("x", 60)} {
+		want(t, s, told(record.IsLapName(s)), "true")
+	}
+	for _, s := range []string{"\n", "\x1f", "a\x7f", "ü", strings.Repeat("x", 61)} {
+		want(t, s, told(record.IsLapName(s)), "false")
+	}
+}
+
 func TestB1Span(t *testing.T) {
 	a := ride()
 	want(t, "three samples", told(record.Span(a)), "63")

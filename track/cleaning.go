@@ -61,7 +61,7 @@ func Level(a api.Activity, width int) (api.Activity, api.Errno) {
 	if !within(width, 0, MaxWidth) {
 		return api.Activity{}, api.ErrRange
 	}
-	level := clone(a)
+	level := record.Clone(a)
 	for i := range a.Samples {
 		from, to := max(i-width, 0), min(i+width+1, len(a.Samples))
 		level.Samples[i].Z = middle(a.Samples[from:to])
@@ -87,7 +87,7 @@ func Fill(a api.Activity, gap int) (api.Activity, api.Errno) {
 	if !within(gap, 0, api.MaxSpan) {
 		return api.Activity{}, api.ErrRange
 	}
-	filled := clone(a)
+	filled := record.Clone(a)
 	at := func(x api.Sample) int { return x.At }
 	fill(filled.Samples, gap, at, func(x *api.Sample) *int { return &x.Pulse })
 	fill(filled.Samples, gap, at, func(x *api.Sample) *int { return &x.Power })

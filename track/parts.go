@@ -7,12 +7,6 @@ import (
 	"harrier/record"
 )
 
-// clone returns the activity with memory of its own.
-func clone(a api.Activity) api.Activity {
-	a.Samples, a.Laps, a.Tags = slices.Clone(a.Samples), slices.Clone(a.Laps), slices.Clone(a.Tags)
-	return a
-}
-
 // Only returns the activity with just the samples that have the numbers.
 func Only(a api.Activity, l []int) (api.Activity, api.Errno) {
 	if e := record.Check(a); e != api.OK {
@@ -56,7 +50,7 @@ func Cut(a api.Activity, from, to int) (api.Activity, api.Errno) {
 
 // part returns the activity with these samples of it, beginning with the first of them. It takes the samples over.
 func part(a api.Activity, samples []api.Sample) api.Activity {
-	b := clone(a)
+	b := record.Clone(a)
 	b.Samples = samples
 	later := 0
 	if len(samples) > 0 {
@@ -102,7 +96,7 @@ func Join(a, b api.Activity) (api.Activity, api.Errno) {
 	if later < record.Span(a) {
 		return api.Activity{}, api.ErrState
 	}
-	b = clone(b)
+	b = record.Clone(b)
 	moveSamples(b.Samples, later)
 	for i := range b.Laps {
 		b.Laps[i].From += later
@@ -113,9 +107,7 @@ func Join(a, b api.Activity) (api.Activity, api.Errno) {
 	}
 	a.Samples = slices.Concat(a.Samples, b.Samples)
 	a.Laps = slices.Concat(a.Laps, b.Laps)
-	a.Tags = slices.Concat(a.Tags, b.Tags)
-	slices.Sort(a.Tags)
-	a.Tags = slices.Compact(a.Tags)
+	a.Tags = record.JoinTags(a.Tags, b.Tags)
 	// The check asks for the sizes first.
 	return checked(a)
 }

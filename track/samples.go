@@ -2,6 +2,7 @@ package track
 
 import (
 	"cmp"
+	"iter"
 	"slices"
 
 	"harrier/api"
@@ -29,6 +30,23 @@ func sampleAt(l []api.Sample, second int) api.Sample {
 		return l[i]
 	}
 	return onStep(l[i-1], l[i], second)
+}
+
+// Seconds yields for each second of the span where somebody was, as At has it. The samples are those of an activity that is right.
+func Seconds(l []api.Sample) iter.Seq[api.Sample] {
+	return func(yield func(api.Sample) bool) {
+		for i, q := range l {
+			p := l[max(i-1, 0)]
+			for second := p.At + 1; second < q.At; second++ {
+				if !yield(onStep(p, q, second)) {
+					return
+				}
+			}
+			if !yield(q) {
+				return
+			}
+		}
+	}
 }
 
 // search returns the number of the first sample that is not before a second, and whether it is at it.
@@ -146,7 +164,7 @@ func Resample(a api.Activity, step int) (api.Activity, api.Errno) {
 	if (span+step-1)/step+1 > api.MaxSamples {
 		return api.Activity{}, api.ErrSize
 	}
-	b := clone(a)
+	b := record.Clone(a)
 	if len(a.Samples) == 0 {
 		return b, api.OK
 	}

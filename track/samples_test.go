@@ -6,6 +6,7 @@ import (
 	"math/big"
 	"math/rand"
 	"slices"
+	"strings"
 	"testing"
 
 	"harrier/api"
@@ -68,6 +69,35 @@ func TestC8At(t *testing.T) {
 				want(t, fmt.Sprint("At ", second, " of ", a.Samples), told(x, e), told(slowAt(a, second), api.OK))
 			}
 		}
+	})
+}
+
+func TestC8Seconds(t *testing.T) {
+	list := func(a api.Activity, most int) (l []string) {
+		for x := range track.Seconds(a.Samples) {
+			if len(l) == most {
+				break
+			}
+			l = append(l, told(x))
+		}
+		return l
+	}
+	want(t, "without samples", told(list(walk(), 9)), "[]")
+	want(t, "one sample", told(list(walk([]int{0, 1, 2, 3}), 9)), "[{0 1 2 3 -1 -1 -1}]")
+	a := walk([]int{0, 0, 0, 0}, []int{3, 30, 3, -3}, []int{4, 7, 7, 7})
+	all := "[{0 0 0 0 -1 -1 -1} {1 10 1 -1 -1 -1 -1} {2 20 2 -2 -1 -1 -1} {3 30 3 -3 -1 -1 -1} {4 7 7 7 -1 -1 -1}"
+	want(t, "all of them", told(list(a, 9)), all+"]")
+	for most, end := range map[int]int{0: 1, 1: 19, 2: 40, 3: 61, 4: 82} {
+		want(t, told("not more than", most), told(list(a, most)), strings.TrimSuffix(all[:end], " ")+"]")
+	}
+	randoms(16, 100, func(r *rand.Rand, a api.Activity) {
+		var slow []string
+		for second := range record.Span(a) + 1 {
+			if len(a.Samples) > 0 {
+				slow = append(slow, told(slowAt(a, second)))
+			}
+		}
+		want(t, fmt.Sprint("Seconds of ", a.Samples), told(list(a, api.MaxSpan)), told(slow))
 	})
 }
 

@@ -124,21 +124,11 @@ func readFields(words []string, r *api.VeilRule) bool {
 		if names[i] == 's' {
 			r.Text = word
 		} else {
-			*numberIn(r, names[i]), ok = readNumber(word)
+			*numberIn(r, names[i]), ok = quant.ReadSigned(word, maxDigits)
 		}
 		if !ok {
 			return false
 		}
 	}
 	return true
-}
-
-// readNumber reads a number that can have a `-` ahead, but for 0.
-func readNumber(word string) (int, bool) {
-	digits, isBelow := strings.CutPrefix(word, "-")
-	n, ok := quant.ReadWhole(digits, maxDigits)
-	if isBelow {
-		return -n, ok && n > 0
-	}
-	return n, ok
 }
