@@ -117,7 +117,7 @@ func (b *Book) Ratio(day int) (api.Ratio, bool, api.Errno) {
 			few += load
 		}
 	}
-	ratio := ratioOf(few*(manyDays/fewDays), many)
+	ratio := RatioOf(few*(manyDays/fewDays), many)
 	if ratio == (api.Ratio{}) {
 		return api.Ratio{Num: 0, Den: 1}, false, api.OK
 	}

@@ -46,13 +46,13 @@ func Fit(l []api.Test) (power, work api.Ratio, e api.Errno) {
 	}
 	// No product of these is above 4 * 10^18; den is above 0, as the Seconds of two tests differ.
 	den := len(l)*squares - seconds*seconds
-	power = ratioOf(len(l)*products-seconds*works, den)
-	work = ratioOf(works*squares-seconds*products, den)
+	power = RatioOf(len(l)*products-seconds*works, den)
+	work = RatioOf(works*squares-seconds*products, den)
 	return power, work, api.OK
 }
 
-// ratioOf returns num / den in lowest terms; what is no ratio at all, if den is 0.
-func ratioOf(num, den int) api.Ratio {
+// RatioOf returns num / den in lowest terms; what is no ratio at all, if den is 0. It is not below 0.
+func RatioOf(num, den int) api.Ratio {
 	if den == 0 {
 		return api.Ratio{}
 	}

@@ -89,6 +89,17 @@ func isLowest(x api.Ratio) bool {
 }
 
 // TestF1LeastSquares asks whether the errors add up to 0, and so do those times the seconds: of no other line the sum of squares is as little.
+func TestF1RatioOf(t *testing.T) {
+	for _, c := range []struct {
+		num, den int
+		want     string
+	}{
+		{0, 1, "{0 1}"}, {0, 9, "{0 1}"}, {6, 4, "{3 2}"}, {-6, 4, "{-3 2}"}, {4, 6, "{2 3}"}, {8, 4, "{2 1}"}, {-8, 4, "{-2 1}"}, {7, 1, "{7 1}"}, {5, 0, "{0 0}"}, {0, 0, "{0 0}"}, {1 << 60, 1 << 59, "{2 1}"}, {17, 19, "{17 19}"},
+	} {
+		want(t, fmt.Sprint("RatioOf ", c.num, " ", c.den), told(load.RatioOf(c.num, c.den)), c.want)
+	}
+}
+
 func TestF1LeastSquares(t *testing.T) {
 	r := rand.New(rand.NewSource(1))
 	for range 3000 {

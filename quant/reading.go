@@ -76,7 +76,7 @@ func ReadWhole(s string, most int) (int, bool) {
 	}
 	n := 0
 	for i := range len(s) {
-		if s[i] < '0' || s[i] > '9' {
+		if !IsDigit(s[i]) {
 			return 0, false
 		}
 		n = 10*n + int(s[i]-'0')

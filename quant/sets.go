@@ -20,15 +20,23 @@ func IsName(s string) bool {
 		return false
 	}
 	for i := range len(s) {
-		c := s[i]
-		letter := c >= 'a' && c <= 'z' || c >= 'A' && c <= 'Z'
-		digit := c >= '0' && c <= '9'
-		if !letter && !digit && c != '-' && c != '_' && c != '.' {
+		if !IsNameByte(s[i]) {
 			return false
 		}
 	}
 	return true
 }
+
+// IsNameByte reports whether names can have this byte.
+func IsNameByte(c byte) bool {
+	return IsLetter(c) || IsDigit(c) || c == '-' || c == '_' || c == '.'
+}
+
+// IsLetter reports whether a byte is one of the letters that names can have.
+func IsLetter(c byte) bool { return c >= 'a' && c <= 'z' || c >= 'A' && c <= 'Z' }
+
+// IsDigit reports whether a byte is a decimal digit.
+func IsDigit(c byte) bool { return c >= '0' && c <= '9' }
 
 func inSets(n int) bool { return n >= 0 && n <= MaxTotal }
 

@@ -217,3 +217,13 @@ func TestA9OwnMemory(t *testing.T) {
 	}
 	want(t, "the argument", told(a, a[:2]), "[{1 5}] [{1 5} {0 0}]")
 }
+
+// TestA8NameBytes asks for all bytes.
+func TestA8NameBytes(t *testing.T) {
+	const upper, lower, digits = "ABCDEFGHIJKLMNOPQRSTUVWXYZ", "abcdefghijklmnopqrstuvwxyz", "0123456789"
+	for n := range 256 {
+		c := byte(n)
+		in := func(s string) bool { return strings.IndexByte(s, c) >= 0 }
+		want(t, told("the byte", n), told(quant.IsLetter(c), quant.IsDigit(c), quant.IsNameByte(c), quant.IsName(string([]byte{c}))), told(in(upper+lower), in(digits), in(upper+lower+digits+"-_."), in(upper+lower+digits+"-_.")))
+	}
+}

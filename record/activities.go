@@ -27,7 +27,7 @@ func Check(a api.Activity) api.Errno {
 	if e := checkLaps(a.Laps, Span(a)); e != api.OK {
 		return e
 	}
-	return checkTags(a.Tags)
+	return CheckTags(a.Tags)
 }
 
 // Span returns At of the last sample, 0 without samples.
@@ -90,7 +90,8 @@ func IsLapName(s string) bool {
 	return true
 }
 
-func checkTags(l []string) api.Errno {
+// CheckTags returns what is wrong with the tags of an activity, but for how many there are.
+func CheckTags(l []string) api.Errno {
 	for i, x := range l {
 		if !quant.IsName(x) {
 			return api.ErrName

@@ -172,6 +172,21 @@ func TestB1CheckTags(t *testing.T) {
 	})
 }
 
+func TestB1CheckTagsAlone(t *testing.T) {
+	many := make([]string, 21)
+	for i := range many {
+		many[i] = string(rune('a' + i))
+	}
+	for _, c := range []struct {
+		l    []string
+		want string
+	}{
+		{nil, "0"}, {[]string{"a"}, "0"}, {[]string{"Z", "a", "b"}, "0"}, {many, "0"}, {[]string{""}, "8"}, {[]string{"b", "a", ""}, "10"}, {[]string{"", "b", "a"}, "8"}, {[]string{"a", "a"}, "10"}, {[]string{"a", "b c"}, "8"},
+	} {
+		want(t, told("CheckTags", c.l), told(record.CheckTags(c.l)), c.want)
+	}
+}
+
 func TestB1Same(t *testing.T) {
 	changes := map[string]func(a *api.Activity){
 		"Name":        func(a *api.Activity) { a.Name = "Ride_1.y" },
