@@ -653,3 +653,13 @@ func TestL4PrintRandom(t *testing.T) {
 		}
 	}
 }
+
+// TestL4FieldOf asks for the words of the numbers of rows.
+func TestL4FieldOf(t *testing.T) {
+	for i, word := range []string{"start", "day", "way", "climb", "seconds", "load", "weekday"} {
+		want(t, word, told(ask.FieldOf(word)), told(api.FieldStart+i, true))
+	}
+	for _, word := range []string{"", " ", "Start", "star", "starts", "start ", "sport", "many"} {
+		want(t, word, told(ask.FieldOf(word)), "0 false")
+	}
+}

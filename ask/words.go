@@ -1,6 +1,10 @@
 package ask
 
-import "harrier/api"
+import (
+	"slices"
+
+	"harrier/api"
+)
 
 // sports has the words of sports.
 func sports() []string {
@@ -18,6 +22,16 @@ func fields() []string {
 		api.FieldLoad:    "load",
 		api.FieldWeekday: "weekday",
 	}
+}
+
+// FieldOf returns the number of rows that has a word, if there is one.
+func FieldOf(word string) (int, bool) {
+	n := slices.Index(fields(), word)
+	// Ahead of the first one there is an empty word.
+	if n < api.FieldStart {
+		return 0, false
+	}
+	return n, true
 }
 
 // tells has the words of what is told of a group.

@@ -35,10 +35,11 @@ func Tiles(a api.Activity, side int) ([]api.Tile, api.Errno) {
 			}
 		}
 	}
-	return slices.SortedFunc(maps.Keys(seen), compareTiles), api.OK
+	return slices.SortedFunc(maps.Keys(seen), CompareTiles), api.OK
 }
 
-func compareTiles(s, t api.Tile) int {
+// CompareTiles compares tiles by X, then by Y.
+func CompareTiles(s, t api.Tile) int {
 	return cmp.Or(cmp.Compare(s.X, t.X), cmp.Compare(s.Y, t.Y))
 }
 
@@ -56,7 +57,7 @@ func CheckTiles(l []api.Tile) api.Errno {
 		if !isInRange(t.X, t.Y) {
 			return api.ErrRange
 		}
-		if i > 0 && compareTiles(l[i-1], t) >= 0 {
+		if i > 0 && CompareTiles(l[i-1], t) >= 0 {
 			return api.ErrOrder
 		}
 	}
@@ -99,7 +100,7 @@ func Cluster(l []api.Tile) ([]api.Tile, api.Errno) {
 			most = group
 		}
 	}
-	slices.SortFunc(most, compareTiles)
+	slices.SortFunc(most, CompareTiles)
 	return most, api.OK
 }
 

@@ -370,3 +370,13 @@ func markedCluster(l []api.Tile) []api.Tile {
 	}
 	return most
 }
+
+// TestE7CompareTiles has tiles in their order.
+func TestE7CompareTiles(t *testing.T) {
+	l := []api.Tile{{X: -5, Y: 9}, {X: -5, Y: 10}, {X: 0, Y: -1}, {X: 0, Y: 0}, {X: 7, Y: -3}}
+	for i, a := range l {
+		for j, b := range l {
+			want(t, fmt.Sprint(a, b), fmt.Sprint(match.CompareTiles(a, b)), fmt.Sprint(cmp.Compare(i, j)))
+		}
+	}
+}
